@@ -1,0 +1,1 @@
+"""Keepsort: sorting the rows and columns of tables with holes."""

@@ -1,91 +1,8 @@
-import itertools
 import unittest
 
 from keepsort.errors import InvalidKind, InvalidPlan
 from keepsort.plans import is_plan, is_rectangle, lines, transposed
-
-PLAN = ((0, 0), (0, 1), (1, 1), (2, 0))
-SQUARE = ((0, 0), (0, 1), (1, 0), (1, 1))
-
-
-def block(rows, columns):
-    return tuple((row, column) for row in rows for column in columns)
-
-
-FULL = block(range(3), range(8))
-OVER = FULL + ((3, 0),)
-
-# Tuples of 1 to 24 elements that are no plans, with the index of the fault.
-FAULTS = (
-    (((0, 2), (0, 0)), 1),
-    (((1, 0), (0, 5)), 1),
-    (((0, 0), (0, 0)), 1),
-    (((0, 0), (0, 1), (0, 1)), 2),
-    (((0, 0), (2, 0), (1, 7), (0, 0)), 2),
-    (FULL[:23] + ((2, 6),), 23),
-    (FULL[:23] + ((2, 8),), 23),
-    (((0, 8),), 0),
-    (((8, 0),), 0),
-    (((0, -1),), 0),
-    (((-1, 0),), 0),
-    (((0, 0), (0, 8), (0, 1)), 1),
-    (((0, 0), (7, 10 ** 59)), 1),
-    (([0, 0],), 0),
-    (((0, 0), [0, 1]), 1),
-    (((0,),), 0),
-    (((0, 0, 0),), 0),
-    (((0, 0), (1,)), 1),
-    (((0, 0), (1, 0, 0)), 1),
-    (((),), 0),
-    (((0, 0), ()), 1),
-    (((True, 0),), 0),
-    (((0, True),), 0),
-    (((False, 0),), 0),
-    (((0, False),), 0),
-    (((0, 0), (0, True)), 1),
-    (((0, 0), (True, 1)), 1),
-    ((0, 0), 0),
-    ((None,), 0),
-    (((0, 0), None), 1),
-    (("00", "01"), 0),
-    (((0, 0), "01"), 1),
-    ((("0", "0"),), 0),
-    (((0, "1"),), 0),
-    (((None, 0),), 0),
-    ((((0, 0), (0, 1)),), 0),
-    (((0, (0,)),), 0),
-    ((b"ab",), 0),
-    (({0: 0, 1: 0},), 0),
-    (({0, 1},), 0),
-)
-
-# Values for which the index is None, whatever their elements are.
-NO_TUPLES = (
-    (),
-    OVER,
-    FULL + (None,),
-    (None,) * 25,
-    ((0, 0),) * 25,
-    ((0, 8),) * 30,
-    list(PLAN),
-    [],
-    [[0, 0]],
-    None,
-    True,
-    False,
-    0,
-    5,
-    -1,
-    10 ** 59,
-    "",
-    "ab",
-    "plan",
-    b"ab",
-    {},
-    {(0, 0): 1},
-    {(0, 0)},
-    object(),
-)
+from samples import ALL_PLAN_FAULTS, BAD_KINDS, FULL, NO_PLANS, OVER, PLAN, PLAN_FAULTS, SQUARE, block, small_plans
 
 PLANS = (
     ((0, 0),),
@@ -101,17 +18,6 @@ PLANS = (
     ((0, 7), (1, 0)),
     ((0, 0), (7, 7)),
 )
-
-BAD_KINDS = ("r", "c", "", "RC", "RR", " R", "R\n", "X", None, 0, 1, True, False,
-             ("R",), ["R"], b"R", {"R"}, {"R": 1}, ())
-
-
-def small_plans():
-    """All plans in nine cells: close together, spread out, and at the far corner."""
-    for places in ((0, 1, 2), (0, 3, 7), (5, 6, 7)):
-        cells = block(places, places)
-        for count in range(1, 10):
-            yield from itertools.combinations(cells, count)
 
 
 def lines_by_definition(plan, kind):
@@ -158,7 +64,7 @@ class IsPlanTest(unittest.TestCase):
                 self.assertIs(is_plan(plan), True)
 
     def test_no_plans(self):
-        for value in [value for value, index in FAULTS] + list(NO_TUPLES):
+        for value in [value for value, index in ALL_PLAN_FAULTS]:
             with self.subTest(value=value):
                 self.assertIs(is_plan(value), False)
 
@@ -233,7 +139,7 @@ class LinesTest(unittest.TestCase):
                 self.assertIs(held.exception.kind, kind)
 
     def test_invalid_plan_comes_before_invalid_kind(self):
-        for value, index in FAULTS + tuple((value, None) for value in NO_TUPLES):
+        for value, index in ALL_PLAN_FAULTS:
             with self.subTest(value=value):
                 with self.assertRaises(InvalidPlan) as held:
                     lines(kind="r", plan=value)
@@ -312,7 +218,7 @@ class AllFunctionsTest(unittest.TestCase):
     calls = (row_lines, transposed, is_rectangle)
 
     def test_invalid_plan_with_an_index(self):
-        for value, index in FAULTS:
+        for value, index in PLAN_FAULTS:
             for call in self.calls:
                 with self.subTest(value=value, call=call.__name__):
                     with self.assertRaises(InvalidPlan) as held:
@@ -321,7 +227,7 @@ class AllFunctionsTest(unittest.TestCase):
                     self.assertEqual(held.exception.index, index)
 
     def test_invalid_plan_without_an_index(self):
-        for value in NO_TUPLES:
+        for value in NO_PLANS:
             for call in self.calls:
                 with self.subTest(value=value, call=call.__name__):
                     with self.assertRaises(InvalidPlan) as held:

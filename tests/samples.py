@@ -1,0 +1,305 @@
+"""Plans, fillings and wrong values that several tests use."""
+
+import itertools
+import random
+
+CORNER = ((0, 0), (0, 1), (1, 0))
+PLAN = ((0, 0), (0, 1), (1, 1), (2, 0))
+SKEW = ((0, 1), (0, 2), (1, 0), (1, 1))
+SQUARE = ((0, 0), (0, 1), (1, 0), (1, 1))
+
+
+def block(rows, columns):
+    return tuple((row, column) for row in rows for column in columns)
+
+
+FULL = block(range(3), range(8))
+OVER = FULL + ((3, 0),)
+
+# A path that goes down by turns to the right and to below.
+STAIRS = tuple(sorted([(at, at) for at in range(8)] + [(at, at + 1) for at in range(7)]))
+
+# Tuples of 1 to 24 elements that are no plans, with the index of the fault.
+PLAN_FAULTS = (
+    (((0, 2), (0, 0)), 1),
+    (((1, 0), (0, 5)), 1),
+    (((0, 0), (0, 0)), 1),
+    (((0, 0), (0, 1), (0, 1)), 2),
+    (((0, 0), (2, 0), (1, 7), (0, 0)), 2),
+    (FULL[:23] + ((2, 6),), 23),
+    (FULL[:23] + ((2, 8),), 23),
+    (((0, 8),), 0),
+    (((8, 0),), 0),
+    (((0, -1),), 0),
+    (((-1, 0),), 0),
+    (((0, 0), (0, 8), (0, 1)), 1),
+    (((0, 0), (7, 10 ** 59)), 1),
+    (([0, 0],), 0),
+    (((0, 0), [0, 1]), 1),
+    (((0,),), 0),
+    (((0, 0, 0),), 0),
+    (((0, 0), (1,)), 1),
+    (((0, 0), (1, 0, 0)), 1),
+    (((),), 0),
+    (((0, 0), ()), 1),
+    (((True, 0),), 0),
+    (((0, True),), 0),
+    (((False, 0),), 0),
+    (((0, False),), 0),
+    (((0, 0), (0, True)), 1),
+    (((0, 0), (True, 1)), 1),
+    ((0, 0), 0),
+    ((None,), 0),
+    (((0, 0), None), 1),
+    (("00", "01"), 0),
+    (((0, 0), "01"), 1),
+    ((("0", "0"),), 0),
+    (((0, "1"),), 0),
+    (((None, 0),), 0),
+    ((((0, 0), (0, 1)),), 0),
+    (((0, (0,)),), 0),
+    ((b"ab",), 0),
+    (({0: 0, 1: 0},), 0),
+    (({0, 1},), 0),
+)
+
+# Values that are no plans, for which the index is None, whatever their elements are.
+NO_PLANS = (
+    (),
+    OVER,
+    FULL + (None,),
+    (None,) * 25,
+    ((0, 0),) * 25,
+    ((0, 8),) * 30,
+    list(PLAN),
+    [],
+    [[0, 0]],
+    None,
+    True,
+    False,
+    0,
+    5,
+    -1,
+    10 ** 59,
+    "",
+    "ab",
+    "plan",
+    b"ab",
+    {},
+    {(0, 0): 1},
+    {(0, 0)},
+    object(),
+)
+
+ALL_PLAN_FAULTS = PLAN_FAULTS + tuple((value, None) for value in NO_PLANS)
+
+BAD_KINDS = ("r", "c", "", "RC", "RR", " R", "R\n", "X", None, 0, 1, True, False,
+             ("R",), ["R"], b"R", {"R"}, {"R": 1}, ())
+
+# Tuples of four elements that are no fillings, with the index of the fault.
+FILLING_FAULTS = (
+    ((0, 1, 2, 3), 0),
+    ((1, 0, 2, 3), 1),
+    ((1, 2, 3, 0), 3),
+    ((10000, 1, 2, 3), 0),
+    ((1, 2, 3, 10000), 3),
+    ((1, -1, 0, 0), 1),
+    ((1, 2, 10 ** 59, 4), 2),
+    ((-10 ** 59, 2, 3, 4), 0),
+    ((1, 2, 1, 3), 2),
+    ((1, 2, 3, 2), 3),
+    ((5, 5, 5, 5), 1),
+    ((1, 0, 0, 1), 1),
+    ((1, 1, 0, True), 1),
+    ((0, 1, 1, 1), 0),
+    ((3, 4, True, 3), 2),
+    ((True, 2, 3, 4), 0),
+    ((2, True, 3, 4), 1),
+    ((2, 3, 4, True), 3),
+    ((1, True, 3, 4), 1),
+    ((False, 2, 3, 4), 0),
+    ((1, 2, 3, False), 3),
+    ((None, 2, 3, 4), 0),
+    ((1, 2, 3, None), 3),
+    (("1", "2", "3", "4"), 0),
+    ((1, "2", 3, 4), 1),
+    ((1, 2, "", 4), 2),
+    ((1, 2, 3, (4,)), 3),
+    ((1, 2, (), 4), 2),
+    ((1, [2], 3, 4), 1),
+    ((1, 2, {3}, 4), 2),
+    (({}, 2, 3, 4), 0),
+    ((1, b"2", 3, 4), 1),
+    ((1, 2, object(), 4), 2),
+)
+
+# Values that are no fillings of four cells, for which the index is None, whatever their elements are.
+NO_FILLINGS = (
+    (),
+    (1, 2, 3),
+    (1, 2, 3, 4, 5),
+    (0, 0, 0),
+    (True,) * 5,
+    (None,) * 3,
+    ("1",) * 25,
+    [1, 2, 3, 4],
+    [],
+    "1234",
+    "",
+    b"1234",
+    None,
+    True,
+    False,
+    4,
+    10 ** 59,
+    {1, 2, 3, 4},
+    {1: 1, 2: 2, 3: 3, 4: 4},
+    range(1, 5),
+    object(),
+)
+
+ALL_FILLING_FAULTS = FILLING_FAULTS + tuple((value, None) for value in NO_FILLINGS)
+
+# Values that are no words, with the index of the first other character.
+WORD_FAULTS = (
+    ("RCX", 2),
+    ("X", 0),
+    ("r", 0),
+    ("Rc", 1),
+    (" R", 0),
+    ("R ", 1),
+    ("R\n", 1),
+    ("\n", 0),
+    ("RC C", 2),
+    ("RCRxyz", 3),
+    ("x" * 400, 0),
+    ("R" * 399 + "x", 399),
+    ("RC" * 201, None),
+    ("R" * 401, None),
+    ("C" * 400 + "x", None),
+    ("x" * 401, None),
+    ("x" * 2000, None),
+    (None, None),
+    (True, None),
+    (0, None),
+    (10 ** 59, None),
+    ((), None),
+    (("R",), None),
+    (("R", "C"), None),
+    (["R"], None),
+    (b"RC", None),
+    (b"", None),
+    ({"R"}, None),
+    ({"R": "C"}, None),
+    (object(), None),
+)
+
+BAD_NUMBERS = (True, False, None, "", "5", "a", (), (5,), [], [5], b"5", {}, {5}, object())
+
+
+def raised(call, *values, **named):
+    """The error that the call raises, None if it raises none."""
+    try:
+        call(*values, **named)
+    except Exception as error:
+        return error
+    return None
+
+
+def what(error):
+    """The class of an error and its attributes."""
+    return error.__class__, dict(vars(error))
+
+
+def drawn_plan(draw, most=24):
+    """Any plan, of any spread, with at most so many cells."""
+    rows = sorted(draw.sample(range(8), draw.randint(1, 8)))
+    columns = sorted(draw.sample(range(8), draw.randint(1, 8)))
+    cells = block(rows, columns)
+    count = draw.randint(1, min(most, len(cells)))
+    return tuple(sorted(draw.sample(cells, count)))
+
+
+def drawn_plan_that_keeps(draw, most=24):
+    """Any plan without an obstacle: cells are taken away from the first obstacle as long as there is one."""
+    plan = set(drawn_plan(draw, most))
+    while True:
+        found = obstacle_by_search(plan)
+        if found is None:
+            return tuple(sorted(plan))
+        upper, lower, left, right = found
+        corners = [cell for cell in block((upper, lower), (left, right)) if cell in plan]
+        plan.discard(draw.choice(corners))
+
+
+def drawn_filling(draw, plan):
+    """Any filling of the plan, with values close together or far apart."""
+    most = draw.choice((len(plan), 2 * len(plan), 9999))
+    return tuple(draw.sample(range(1, most + 1), len(plan)))
+
+
+def drawn_plans(seed, count, most=24):
+    draw = random.Random(seed)
+    return [drawn_plan(draw, most) for at in range(count)]
+
+
+def drawn_tables(seed, count, most=24):
+    draw = random.Random(seed)
+    plans = [drawn_plan(draw, most) for at in range(count)]
+    return [(plan, drawn_filling(draw, plan)) for plan in plans]
+
+
+def drawn_word(draw, most):
+    return "".join(draw.choice("RC") for at in range(draw.randint(0, most)))
+
+
+def small_plans():
+    """All plans in nine cells: close together, spread out, and at the far corner."""
+    for places in ((0, 1, 2), (0, 3, 7), (5, 6, 7)):
+        yield from plans_within(block(places, places), 9)
+
+
+def plans_within(cells, most):
+    """All plans of at most so many of these cells."""
+    for count in range(1, most + 1):
+        yield from itertools.combinations(cells, count)
+
+
+def all_fillings(plan):
+    """All orders of values in the plan; effects of sorts depend on nothing else."""
+    return itertools.permutations(range(1, len(plan) + 1))
+
+
+def sort_by_hand(plan, filling, kind):
+    """A sort made from a dict of cells, by a walk over the whole grid."""
+    values = dict(zip(plan, filling))
+    for first in range(8):
+        line = [(first, second) if kind == "R" else (second, first) for second in range(8)]
+        line = [cell for cell in line if cell in values]
+        for cell, value in zip(line, sorted(values[cell] for cell in line)):
+            values[cell] = value
+    return tuple(values[cell] for cell in plan)
+
+
+def after_by_hand(plan, filling, word):
+    for letter in word:
+        filling = sort_by_hand(plan, filling, letter)
+    return filling
+
+
+def is_sorted_by_hand(plan, filling, kind):
+    """Whether each two values of a line are in order."""
+    side = "RC".index(kind)
+    pairs = itertools.combinations(zip(plan, filling), 2)
+    return all(low < high for (one, low), (other, high) in pairs if one[side] == other[side])
+
+
+def obstacle_by_search(plan):
+    """The least obstacle among all pairs of rows and all pairs of columns."""
+    found = []
+    for upper, lower in itertools.combinations(range(8), 2):
+        for left, right in itertools.combinations(range(8), 2):
+            corners = [cell in plan for cell in block((upper, lower), (left, right))]
+            if corners in ([True, False, True, True], [True, True, False, True]):
+                found.append((upper, lower, left, right))
+    return min(found) if found else None

@@ -29,6 +29,14 @@ def is_filling(plan, value):
     return True
 
 
+def filling_of_marks(marks):
+    """Return a filling whose marked cells have the greatest values, ascending among these and among the others."""
+    small = [index for index, is_marked in enumerate(marks) if not is_marked]
+    great = [index for index, is_marked in enumerate(marks) if is_marked]
+    order = small + great
+    return tuple([order.index(index) + 1 for index in range(len(marks))])
+
+
 def ranks(plan, filling):
     """Return the ranks of the values, in the order of the plan."""
     check_plan(plan)

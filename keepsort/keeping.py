@@ -1,5 +1,6 @@
 """Plans that keep: those on which a sort of one kind leaves the other kind sorted."""
 
+from keepsort.fillings import filling_of_marks
 from keepsort.limits import MOST_INDEX
 from keepsort.plans import check_kind, check_plan, transposed
 
@@ -43,16 +44,7 @@ def breaks_for_rows(plan, found):
     """
     upper, lower, left, right = found
     broken = lower if (upper, right) not in plan else upper
-    small = []
-    great = []
-    for row, column in plan:
-        if (row, left) in plan and (row > broken or row == upper):
-            great.append((row, column))
-        else:
-            small.append((row, column))
-    # Both parts are in the order of the plan, so each row ascends.
-    order = small + great
-    return tuple([order.index(cell) + 1 for cell in plan])
+    return filling_of_marks([(row, left) in plan and (row > broken or row == upper) for row, column in plan])
 
 
 def breaking_filling(plan, kind):

@@ -15,6 +15,15 @@ def check_word(word):
             raise InvalidWord(index)
 
 
+def is_word(value):
+    """Tell whether the value, which may be any, is a word."""
+    try:
+        check_word(value)
+    except InvalidWord:
+        return False
+    return True
+
+
 def other_kind(kind):
     """Return the kind that is not this one."""
     return "C" if kind == "R" else "R"

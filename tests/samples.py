@@ -303,3 +303,150 @@ def obstacle_by_search(plan):
             if corners in ([True, False, True, True], [True, True, False, True]):
                 found.append((upper, lower, left, right))
     return min(found) if found else None
+
+
+def nested(depth, word="R", times=2):
+    """A program with so many nested programs, itself included, and one word in the innermost one."""
+    program = (word,) if word else ()
+    for at in range(depth - 1):
+        program = (("repeat", times, program),)
+    return program
+
+
+# Tuples that are no programs, with the index of the first step with which they are none.
+PROGRAM_FAULTS = (
+    (("",), 0),
+    (("R", ""), 1),
+    (("R", "x"), 1),
+    (("R", "C", "RCx", "y"), 2),
+    (("r",), 0),
+    (("R C",), 0),
+    ((" R",), 0),
+    (("R\n",), 0),
+    (("repeat",), 0),
+    (("R" * 401,), 0),
+    (("RC" * 200, "RC" * 200 + "R"), 1),
+    ((("repeat", 0, ()),), 0),
+    (("R", ("repeat", 0, ())), 1),
+    ((("repeat", -1, ("R",)),), 0),
+    ((("repeat", 10 ** 30 + 1, ("R",)),), 0),
+    ((("repeat", 10 ** 59, ()),), 0),
+    ((("repeat", True, ("R",)),), 0),
+    ((("repeat", False, ("R",)),), 0),
+    ((("repeat", "2", ("R",)),), 0),
+    ((("repeat", None, ("R",)),), 0),
+    ((("repeat", (2,), ("R",)),), 0),
+    ((("repeat", [2], ("R",)),), 0),
+    ((("repeat", 2),), 0),
+    ((("repeat", 2, (), ()),), 0),
+    ((("repeat",),), 0),
+    (((),), 0),
+    ((("R",),), 0),
+    ((("R", "C", "R"),), 0),
+    (("repeat", 2, ("R",)), 0),
+    ((("Repeat", 2, ("R",)),), 0),
+    ((("repeat ", 2, ("R",)),), 0),
+    ((("", 2, ("R",)),), 0),
+    (((b"repeat", 2, ("R",)),), 0),
+    (((None, 2, ("R",)),), 0),
+    (((["repeat"], 2, ("R",)),), 0),
+    ((["repeat", 2, ("R",)],), 0),
+    ((("repeat", 2, ["R"]),), 0),
+    ((("repeat", 2, []),), 0),
+    ((("repeat", 2, "R"),), 0),
+    ((("repeat", 2, ""),), 0),
+    ((("repeat", 2, None),), 0),
+    ((("repeat", 2, ("R", "x")),), 0),
+    (("R", "C", ("repeat", 2, ("",)), ""), 2),
+    (("R", ("repeat", 2, (("repeat", 0, ()),))), 1),
+    (("R", ("repeat", 2, (("repeat", 3, ["R"]),))), 1),
+    (("R", None), 1),
+    (("R", 0), 1),
+    (("R", True), 1),
+    ((b"R",), 0),
+    (("R", []), 1),
+    (("R", {}), 1),
+    (({"R"},), 0),
+    (("R", object()), 1),
+    (("R",) * 61, 60),
+    (("R",) * 61 + ("x",), 60),
+    (("R",) * 3 + ("x",) + ("R",) * 60, 3),
+    (("R",) * 59 + (("repeat", 2, ("R",)),), 59),
+    (("R",) * 60 + (("repeat", 2, ()),), 60),
+    ((("repeat", 2, ("R",) * 60),), 0),
+    ((("repeat", 2, ("R",) * 59), "R"), 1),
+    ((("repeat", 2, ("R",) * 30), ("repeat", 2, ("R",) * 29)), 1),
+    ((("repeat", 2, ("R",) * 29), ("repeat", 2, ("R",) * 29), "C"), 2),
+    ((("repeat", 2, (("repeat", 2, ("R",) * 29), ("repeat", 2, ("R",) * 29))),), 0),
+    (nested(6), 0),
+    (nested(6, ""), 0),
+    (nested(20), 0),
+    (("R",) + nested(6), 1),
+    (nested(5) + nested(6), 1),
+    (("R", "C") + nested(7, "", 1), 2),
+)
+
+# Values that are no programs, for which the index is None.
+NO_PROGRAMS = ([], ["R"], ["x"], [("repeat", 2, ())], "", "R", "x", b"R", None, True, False, 0, 10 ** 59,
+               {}, {"R": 1}, {"R"}, object())
+
+ALL_PROGRAM_FAULTS = PROGRAM_FAULTS + tuple((value, None) for value in NO_PROGRAMS)
+
+PROGRAMS = (
+    (),
+    ("R",),
+    ("C",),
+    ("RCCR", "C"),
+    ("R" * 400,),
+    ("RC" * 200,) * 60,
+    ("R",) * 60,
+    (("repeat", 1, ()),),
+    (("repeat", 1, ("R",)),),
+    (("repeat", 10 ** 30, ()),),
+    (("repeat", 10 ** 30, ("RC",)),),
+    (("repeat", 2, ()),) * 60,
+    (("repeat", 2, ("R",)),) * 30,
+    (("repeat", 2, ("R",) * 59),),
+    (("repeat", 2, ("R",) * 29), ("repeat", 2, ("R",) * 29)),
+    ("R",) * 58 + (("repeat", 2, ("R",)),),
+    nested(5),
+    nested(5, ""),
+    nested(5, "RC" * 200, 10 ** 30),
+    nested(5) + nested(5) + ("R",) * 50,
+    ("RRC", ("repeat", 1000, ("RC", "C"))),
+    ("R", ("repeat", 3, ()), "CC"),
+    (("repeat", 2, (("repeat", 3, ("C",)), "R", ("repeat", 4, ()))), "C"),
+)
+
+
+def drawn_program(draw, times, most=10, depth=1):
+    """Any program of at most so many steps, with repeats of one of these numbers of times."""
+    program = []
+    room = draw.randint(0, most)
+    while room > 0:
+        if depth < 5 and draw.randint(0, 2) == 0:
+            inner, used = drawn_program(draw, times, min(room - 1, 5), depth + 1)
+            program.append(("repeat", draw.choice(times), inner))
+            room -= 1 + used
+        else:
+            program.append(draw.choice("RC") + drawn_word(draw, 3))
+            room -= 1
+    return tuple(program), count_all_steps(program)
+
+
+def count_all_steps(program):
+    return sum(1 if isinstance(step, str) else 1 + count_all_steps(step[2]) for step in program)
+
+
+def drawn_programs(seed, count, times):
+    draw = random.Random(seed)
+    return [drawn_program(draw, times)[0] for at in range(count)]
+
+
+def written_out(program):
+    """All letters of a program, one after another."""
+    return "".join(step if isinstance(step, str) else step[1] * written_out(step[2]) for step in program)
+
+
+def first_of_each_letter(word):
+    return "".join(sorted(set(word), key=word.index))

@@ -1,22 +1,28 @@
-"""Fillings: tuples of different values, one for each cell of a plan."""
+"""Fillings: tuples of different values, one for each cell of a plan; and tables of names in place of values."""
 
 from keepsort.errors import InvalidFilling, InvalidNumber
 from keepsort.limits import MOST_VALUE
-from keepsort.plans import check_plan, is_whole
+from keepsort.plans import check_plan, is_between, is_whole
+
+NAME_LETTERS = "abcdefghijklmnopqrstuvwxyz"
+MOST_NAME_LETTERS = 6
 
 
-def is_value(value):
-    """Tell whether the value may stand in a cell."""
-    return is_whole(value) and 1 <= value <= MOST_VALUE
+def first_fault(values, most):
+    """Return the index of the first value that is no integer from 1 to `most` or occurs earlier, None without one."""
+    for index, value in enumerate(values):
+        if not is_between(value, 1, most) or value in values[:index]:
+            return index
+    return None
 
 
 def check_filling(size, filling):
     """Raise InvalidFilling unless the value is a filling of so many cells."""
     if not isinstance(filling, tuple) or len(filling) != size:
         raise InvalidFilling(None)
-    for index, value in enumerate(filling):
-        if not is_value(value) or value in filling[:index]:
-            raise InvalidFilling(index)
+    index = first_fault(filling, MOST_VALUE)
+    if index is not None:
+        raise InvalidFilling(index)
 
 
 def is_filling(plan, value):
@@ -52,3 +58,17 @@ def signs(plan, filling, limit):
     if not is_whole(limit):
         raise InvalidNumber(limit)
     return "".join(["1" if value >= limit else "0" for value in filling])
+
+
+def is_name(value):
+    """Tell whether the value, which may be any, is a name."""
+    if not isinstance(value, str) or not 1 <= len(value) <= MOST_NAME_LETTERS:
+        return False
+    return all([letter in NAME_LETTERS for letter in value])
+
+
+def is_name_table(size, value):
+    """Tell whether the value, which may be any, is a tuple of so many different names."""
+    if not isinstance(value, tuple) or len(value) != size:
+        return False
+    return all([is_name(name) and name not in value[:index] for index, name in enumerate(value)])

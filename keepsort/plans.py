@@ -9,9 +9,14 @@ def is_whole(value):
     return isinstance(value, int) and not isinstance(value, bool)
 
 
+def is_between(value, least, most):
+    """Tell whether the value is an integer within these bounds."""
+    return is_whole(value) and least <= value <= most
+
+
 def is_place(value):
     """Tell whether the value is a number of a row or a column."""
-    return is_whole(value) and 0 <= value <= MOST_INDEX
+    return is_between(value, 0, MOST_INDEX)
 
 
 def is_cell(value):
@@ -30,9 +35,14 @@ def check_plan(plan):
             raise InvalidPlan(index)
 
 
+def is_kind(value):
+    """Tell whether the value, which may be any, is a kind."""
+    return isinstance(value, str) and value in ("R", "C")
+
+
 def check_kind(kind):
     """Raise InvalidKind unless the value is a kind."""
-    if not isinstance(kind, str) or kind not in ("R", "C"):
+    if not is_kind(kind):
         raise InvalidKind(kind)
 
 

@@ -3,7 +3,7 @@
 from keepsort.errors import InvalidProgram
 from keepsort.fillings import check_filling
 from keepsort.limits import MOST_LETTERS, MOST_TIMES
-from keepsort.plans import check_plan, is_whole
+from keepsort.plans import check_plan, is_between
 from keepsort.sorting import after, is_word
 from keepsort.turns import squeezed
 
@@ -15,7 +15,7 @@ def is_repeat(value):
     """Tell whether the value is a repeat of some tuple, which may be a program or not."""
     if not isinstance(value, tuple) or len(value) != 3 or value[0] != "repeat":
         return False
-    return is_whole(value[1]) and 1 <= value[1] <= MOST_TIMES and isinstance(value[2], tuple)
+    return is_between(value[1], 1, MOST_TIMES) and isinstance(value[2], tuple)
 
 
 def count_steps(step, depth, room):

@@ -31,12 +31,14 @@ def wrong_records():
     yield (block(range(2), range(7))[:13], thirteen, "R", thirteen)
     yield (block(range(4), range(6)), tuple("abcdefghijklmnopqrstuvwx"), "R", tuple("abcdefghijklmnopqrstuvwx"))
     for value in ("abcdefg", "", "Al", "aL", "a1", "1", "a b", " a", "a ", "a\n", "\n", "a-b", "a_b", "bo", "bo ",
-                  None, 0, 5, True, False, b"al", ("al",), ["al"], (), {"al"}, {"al": 1}, object(), "a" * 2000, nested(8)):
+                  None, 0, 5, True, False, b"al", ("al",), ["al"], (), {"al"}, {"al": 1}, object(), "a" * 2000,
+                  nested(8)):
         yield (plan, ("bo", value, "cy"), kind, ("bo", value, "cy"))
         yield (plan, ("bo", value, "cy"), kind, after)
         yield (plan, before, kind, ("bo", value, "cy"))
     for value in (("bo", "al"), ("bo", "al", "cy", "di"), (), ["bo", "al", "cy"], "bac", {"bo", "al", "cy"},
-                  None, True, 0, b"bac", ("cy", "cy", "cy"), (("bo", "al", "cy"),), {"bo": 1, "al": 2, "cy": 3}, nested(9)):
+                  None, True, 0, b"bac", ("cy", "cy", "cy"), (("bo", "al", "cy"),), {"bo": 1, "al": 2, "cy": 3},
+                  nested(9)):
         yield (plan, value, kind, after)
         yield (plan, before, kind, value)
         yield (plan, value, kind, value)

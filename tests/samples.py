@@ -294,6 +294,26 @@ def is_sorted_by_hand(plan, filling, kind):
     return all(low < high for (one, low), (other, high) in pairs if one[side] == other[side])
 
 
+def reachable_by_search(plan, filling):
+    """The first word to each table, by a search over words in their order.
+
+    A word whose beginning leads to a table that a smaller word leads to is
+    not tried any further, since that word can take the place of its beginning.
+    """
+    found = {filling: ""}
+    last = [("", filling)]
+    while last:
+        coming = []
+        for word, table in last:
+            for letter in "CR":
+                result = sort_by_hand(plan, table, letter)
+                if result not in found:
+                    found[result] = word + letter
+                    coming.append((word + letter, result))
+        last = coming
+    return tuple((word, table) for table, word in found.items())
+
+
 def obstacle_by_search(plan):
     """The least obstacle among all pairs of rows and all pairs of columns."""
     found = []

@@ -33,6 +33,8 @@ METHODS = (
 ).split()
 AT_ONCE = ("zip", "enumerate", "range", "reversed", "items", "keys", "values")
 TAKERS = "list tuple dict sorted sum any all enumerate zip min max len reversed join".split()
+DOUBLE_METHODS = ("__init__", "__eq__", "__repr__", "__str__", "__len__")
+FREE_ATTRIBUTES = "count index title find get join lower upper split strip copy add".split()
 
 
 def read_files():
@@ -202,6 +204,74 @@ class LanguageTest(unittest.TestCase):
                     self.assertNotIn(getattr(node.type, "id", None), ("Exception", "TypeError"), (name, node.lineno))
                 if isinstance(node, ast.Raise) and node.exc is not None:
                     self.assertIsInstance(node.exc, ast.Call, (name, node.lineno))
+
+    def test_classes(self):
+        methods = set()
+        attributes = set()
+        for name, tree in self.trees().items():
+            for node in ast.walk(tree):
+                if isinstance(node, ast.ClassDef):
+                    self.assertIn(node, tree.body, name)
+                    self.assertEqual(node.decorator_list, [], name)
+                    own = [each.name for each in node.body if isinstance(each, ast.FunctionDef)]
+                    self.assertEqual(len(own), len(set(own)), (name, node.name))
+                    methods |= set(own)
+                elif isinstance(node, ast.FunctionDef):
+                    self.assertEqual(node.decorator_list, [], (name, node.name))
+                elif isinstance(node, ast.Attribute) and not isinstance(node.ctx, ast.Load):
+                    attributes.add(node.attr)
+        self.assertEqual(methods & attributes, set())
+        for own in methods:
+            self.assertTrue(not own.startswith("__") or own in DOUBLE_METHODS, own)
+        built_in = set().union(*[dir(each) for each in ("", 0, [], {}, (), b"", set())])
+        plain = {own for own in methods if not own.startswith("__")}
+        self.assertEqual(plain & (built_in - set(METHODS)), set())
+        self.assertEqual(attributes & (built_in - set(FREE_ATTRIBUTES)), set())
+        for name, tree in self.trees().items():
+            for node in ast.walk(tree):
+                if isinstance(node, ast.Attribute) and isinstance(node.ctx, ast.Load):
+                    self.assertIn(node.attr, attributes | methods | set(METHODS), (name, node.lineno))
+
+    def test_double_underscore_methods_return_at_the_end(self):
+        allowed = {"__len__": ("len",), "__str__": ("str", "repr", "join"), "__repr__": ("str", "repr", "join")}
+        for name, tree in self.trees().items():
+            for node in ast.walk(tree):
+                if isinstance(node, ast.FunctionDef) and node.name in allowed:
+                    self.assertIsInstance(node.body[-1], ast.Return, (name, node.name))
+                    for each in ast.walk(node):
+                        self.assertNotIsInstance(each, (ast.Assign, ast.AugAssign, ast.Delete), (name, node.name))
+                        if isinstance(each, ast.Return) and isinstance(each.value, ast.Call):
+                            self.assertIn(called_name(each.value), allowed[node.name], (name, node.name))
+                        elif isinstance(each, ast.Return):
+                            self.assertIsInstance(each.value, (ast.Constant, ast.JoinedStr), (name, node.name))
+
+    def test_finally_is_simple(self):
+        for name, tree in self.trees().items():
+            for node in ast.walk(tree):
+                if isinstance(node, ast.Try):
+                    for each in [inner for row in node.finalbody for inner in ast.walk(row)]:
+                        allowed = (ast.Assign, ast.If, ast.Compare, ast.Is, ast.IsNot, ast.Constant, ast.Name,
+                                   ast.Attribute,
+                                   ast.Tuple, ast.Load, ast.Store, ast.Pass)
+                        self.assertIsInstance(each, allowed, (name, node.lineno))
+
+    def test_only_own_errors_are_caught(self):
+        own = self.defined_names(self.trees()["errors.py"])
+        for name, tree in self.trees().items():
+            for node in ast.walk(tree):
+                if isinstance(node, ast.ExceptHandler):
+                    caught = node.type.elts if isinstance(node.type, ast.Tuple) else [node.type]
+                    for each in caught:
+                        self.assertIn(each.id, own, (name, node.lineno))
+                if isinstance(node, ast.Raise) and node.exc is not None:
+                    self.assertIn(node.exc.func.id, own, (name, node.lineno))
+
+    def test_tables_at_module_level_are_flat(self):
+        for name, tree in self.trees().items():
+            for node in tree.body:
+                if isinstance(node, ast.Assign):
+                    for each in list(ast.walk(node.value))[1:]:
+                        self.assertNotIsInstance(each, (ast.List, ast.Dict, ast.Set, ast.Call, ast.ListComp), name)
 
     def test_python_gives_no_warning(self):
         for name, text in self.files.items():

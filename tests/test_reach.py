@@ -5,29 +5,9 @@ from keepsort.errors import InvalidFilling, InvalidPlan, OtherValues
 from keepsort.reach import reachable, word_to
 from keepsort.sorting import after
 from samples import (ALL_FILLING_FAULTS, ALL_PLAN_FAULTS, CORNER, FULL, PLAN, SKEW, SQUARE, STAIRS, all_fillings, block,
-                     drawn_filling, drawn_plan_that_keeps, drawn_tables, raised, sort_by_hand, what)
+                     drawn_filling, drawn_plan_that_keeps, drawn_tables, raised, reachable_by_search, what)
 
 DOWN = tuple(range(15, 0, -1))
-
-
-def reachable_by_search(plan, filling):
-    """The first word to each table, by a search over words in their order.
-
-    A word whose beginning leads to a table that a smaller word leads to is
-    not tried any further, since that word can take the place of its beginning.
-    """
-    found = {filling: ""}
-    last = [("", filling)]
-    while last:
-        coming = []
-        for word, table in last:
-            for letter in "CR":
-                result = sort_by_hand(plan, table, letter)
-                if result not in found:
-                    found[result] = word + letter
-                    coming.append((word + letter, result))
-        last = coming
-    return tuple((word, table) for table, word in found.items())
 
 
 def tables():
